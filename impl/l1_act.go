@@ -123,11 +123,9 @@ func Exec(list []Stm, b Bank, arg int) (Bank, []Effect) {
 	if attempt(func() { nodes = liftStms(list, greatest) }) != nil {
 		return Bank{}, []Effect{}
 	}
-	m := moment{kinds: copyInts(b.Kinds), vals: copyInts(b.Vals), arg: arg, effects: []Effect{}}
-	for _, node := range nodes {
-		node.carryOut(&m)
-	}
-	return Bank{Kinds: m.kinds, Vals: m.vals}, m.effects
+	m := momentOf(b, arg)
+	m.carryOutAll(nodes)
+	return m.bank(), m.effects
 }
 
 func copyInts(list []int) []int {
@@ -198,6 +196,21 @@ type moment struct {
 	vals    []int
 	arg     int
 	effects []Effect
+}
+
+// momentOf copies the bank: what statements set is set in the copy.
+func momentOf(b Bank, arg int) *moment {
+	return &moment{kinds: copyInts(b.Kinds), vals: copyInts(b.Vals), arg: arg, effects: []Effect{}}
+}
+
+func (m *moment) bank() Bank {
+	return Bank{Kinds: m.kinds, Vals: m.vals}
+}
+
+func (m *moment) carryOutAll(list []stmNode) {
+	for _, node := range list {
+		node.carryOut(m)
+	}
 }
 
 func (m *moment) set(variable, n int) {
