@@ -440,9 +440,9 @@ func spansOf(v reflect.Value) []span {
 }
 
 // newMemory finds out whether the lists of an answer share memory with one another or with an argument.
-func newMemory(t *testing.T, what any, answer after, args ...any) {
+func newMemory(t *testing.T, what, answer any, args ...any) {
 	t.Helper()
-	own := append(spansOf(reflect.ValueOf(answer.kernel)), spansOf(reflect.ValueOf(answer.recs))...)
+	own := spansOf(reflect.ValueOf(answer))
 	slices.SortFunc(own, func(a, b span) int { return cmp.Compare(a.from, b.from) })
 	for i := 1; i < len(own); i++ {
 		if own[i].from < own[i-1].to {
